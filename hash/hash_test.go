@@ -9,38 +9,8 @@ import (
 	"testing"
 
 	"tollgate/hash"
+	"tollgate/sample"
 )
-
-// filled is n bytes that follow no short period.
-func filled(n int) []byte {
-	b := make([]byte, n)
-	x := uint32(n)*2654435761 + 12345
-	for i := range b {
-		x = x*1664525 + 1013904223
-		b[i] = byte(x >> 24)
-	}
-	return b
-}
-
-// roomy is a copy of b with spare room behind it that holds marks.
-func roomy(b []byte) []byte {
-	room := bytes.Repeat([]byte{0xEE}, len(b)+200)
-	copy(room, b)
-	return room[:len(b)]
-}
-
-func unchanged(t *testing.T, what string, got, want []byte) {
-	t.Helper()
-	if !bytes.Equal(got, want) {
-		t.Errorf("%s was changed", what)
-	}
-	for _, x := range got[len(got):cap(got)] {
-		if x != 0xEE {
-			t.Errorf("%s: its spare room was changed", what)
-			return
-		}
-	}
-}
 
 func TestKnownSums(t *testing.T) {
 	for _, c := range []struct{ text, sum string }{
@@ -87,7 +57,7 @@ func TestNoBytes(t *testing.T) {
 
 func TestEveryLength(t *testing.T) {
 	for n := 0; n <= 520; n++ {
-		b := filled(n)
+		b := sample.Filled(n, 0)
 		want := sha256.Sum256(b)
 		if hash.Of(b) != want {
 			t.Errorf("Of %d bytes", n)
@@ -104,7 +74,7 @@ func TestEveryLength(t *testing.T) {
 
 func TestCutAnywhere(t *testing.T) {
 	for _, n := range []int{1, 2, 55, 56, 63, 64, 65, 119, 120, 127, 128, 129, 191, 192, 193, 300} {
-		b := filled(n)
+		b := sample.Filled(n, 0)
 		want := sha256.Sum256(b)
 		for i := 0; i <= n; i++ {
 			if hash.Of(b[:i], b[i:]) != want {
@@ -126,7 +96,7 @@ func TestCutAnywhere(t *testing.T) {
 func TestPartsOfAnySize(t *testing.T) {
 	r := rand.New(rand.NewSource(1))
 	for range 400 {
-		b := filled(r.Intn(2000))
+		b := sample.Filled(r.Intn(2000), 0)
 		want := sha256.Sum256(b)
 		var parts [][]byte
 		s := hash.New()
@@ -158,7 +128,7 @@ func TestPartsHaveAnOrder(t *testing.T) {
 // More than 2^32 bits: the count at the end takes more than four bytes.
 func TestManyBytes(t *testing.T) {
 	const times = 1<<9 + 1
-	part := filled(1 << 20)
+	part := sample.Filled(1<<20, 0)
 	s, want := hash.New(), sha256.New()
 	for range times {
 		s.Put(part)
@@ -174,7 +144,7 @@ func TestManyBytes(t *testing.T) {
 
 func TestSumLeavesTheState(t *testing.T) {
 	for n := 0; n <= 200; n++ {
-		b := filled(n)
+		b := sample.Filled(n, 0)
 		s := hash.New()
 		s.Put(b)
 		once := s.Sum()
@@ -189,9 +159,9 @@ func TestSumLeavesTheState(t *testing.T) {
 }
 
 func TestCopiesGoTheirOwnWays(t *testing.T) {
-	x, y := filled(77), []byte("other bytes")
+	x, y := sample.Filled(77, 0), []byte("other bytes")
 	for n := 0; n <= 200; n++ {
-		b := filled(n)
+		b := sample.Filled(n, 0)
 		s := hash.New()
 		s.Put(b)
 		u := s.Copy()
@@ -218,7 +188,7 @@ func TestCopiesGoTheirOwnWays(t *testing.T) {
 }
 
 func TestStatesAreApart(t *testing.T) {
-	b, c := filled(500), filled(501)
+	b, c := sample.Filled(500, 0), sample.Filled(501, 0)
 	s, u := hash.New(), hash.New()
 	for i := range b {
 		s.Put(b[i : i+1])
@@ -241,16 +211,16 @@ func TestNilState(t *testing.T) {
 
 func TestNothingIsKeptOrChanged(t *testing.T) {
 	for _, n := range []int{0, 1, 5, 63, 64, 65, 128, 200} {
-		b, c := filled(n), filled(n+3)
-		p, q := roomy(b), roomy(c)
+		b, c := sample.Filled(n, 0), sample.Filled(n+3, 0)
+		p, q := sample.Roomy(b), sample.Roomy(c)
 		parts := append(make([][]byte, 0, 4), p, q)
 		s := hash.New()
 		s.Put(parts...)
 		u := s.Copy()
 		sum := hash.Of(parts...)
 		s.Sum()
-		unchanged(t, "the first part", p, b)
-		unchanged(t, "the second part", q, c)
+		sample.Unchanged(t, "the first part", p, b)
+		sample.Unchanged(t, "the second part", q, c)
 		room := parts[:4]
 		if !bytes.Equal(room[0], b) || !bytes.Equal(room[1], c) || room[2] != nil || room[3] != nil {
 			t.Error("the list of parts was changed")

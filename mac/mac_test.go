@@ -13,47 +13,8 @@ import (
 	"tollgate/api"
 	"tollgate/hash"
 	"tollgate/mac"
+	"tollgate/sample"
 )
-
-// filled is n bytes that follow no short period, others for each seed.
-func filled(n, seed int) []byte {
-	b := make([]byte, n)
-	x := uint32(n)*2654435761 + uint32(seed)*40503 + 12345
-	for i := range b {
-		x = x*1664525 + 1013904223
-		b[i] = byte(x >> 24)
-	}
-	return b
-}
-
-// roomy is a copy of b with spare room behind it that holds marks.
-func roomy(b []byte) []byte {
-	room := bytes.Repeat([]byte{0xEE}, len(b)+300)
-	copy(room, b)
-	return room[:len(b)]
-}
-
-func unchanged(t *testing.T, what string, got, want []byte) {
-	t.Helper()
-	if !bytes.Equal(got, want) {
-		t.Errorf("%s was changed", what)
-	}
-	for _, x := range got[len(got):cap(got)] {
-		if x != 0xEE {
-			t.Errorf("%s: its spare room was changed", what)
-			return
-		}
-	}
-}
-
-func unhex(t *testing.T, s string) []byte {
-	t.Helper()
-	b, err := hex.DecodeString(strings.ReplaceAll(s, " ", ""))
-	if err != nil {
-		t.Fatal(err)
-	}
-	return b
-}
 
 func markOf(key, b []byte) [32]byte {
 	h := hmac.New(sha256.New, key)
@@ -96,9 +57,9 @@ func TestKnownMarks(t *testing.T) {
 }
 
 func TestMarkByEveryKey(t *testing.T) {
-	text := filled(100, 1)
+	text := sample.Filled(100, 1)
 	for n := 0; n <= 200; n++ {
-		key := filled(n, 2)
+		key := sample.Filled(n, 2)
 		if mac.Of(key, text) != markOf(key, text) {
 			t.Errorf("by a key of %d bytes", n)
 		}
@@ -110,9 +71,9 @@ func TestMarkByEveryKey(t *testing.T) {
 
 func TestMarkOfParts(t *testing.T) {
 	for _, n := range []int{0, 1, 47, 55, 56, 63, 64, 65, 128, 150} {
-		b := filled(n, 3)
+		b := sample.Filled(n, 3)
 		for _, size := range []int{0, 10, 64, 65} {
-			key := filled(size, 4)
+			key := sample.Filled(size, 4)
 			want := markOf(key, b)
 			for i := 0; i <= n; i++ {
 				if mac.Of(key, b[:i], nil, b[i:]) != want {
@@ -136,7 +97,7 @@ func TestMarkOfParts(t *testing.T) {
 // A key beyond a block counts as its sum; one of just a block doesn't.
 func TestMarkKeysAtABlock(t *testing.T) {
 	text := []byte("text")
-	just, more := filled(64, 5), filled(65, 5)
+	just, more := sample.Filled(64, 5), sample.Filled(65, 5)
 	sum := hash.Of(more)
 	if mac.Of(more, text) != mac.Of(sum[:], text) {
 		t.Error("a key of 65 bytes isn't its sum")
@@ -152,11 +113,11 @@ func TestSame(t *testing.T) {
 		t.Error("no bytes aren't the same")
 	}
 	for n := 0; n <= 70; n++ {
-		a, b := filled(n, 6), filled(n, 6)
+		a, b := sample.Filled(n, 6), sample.Filled(n, 6)
 		if !mac.Same(a, b) || !mac.Same(a, a) {
 			t.Errorf("%d bytes aren't the same", n)
 		}
-		for _, longer := range [][]byte{append(filled(n, 6), 0), append(filled(n, 6), 1)} {
+		for _, longer := range [][]byte{append(sample.Filled(n, 6), 0), append(sample.Filled(n, 6), 1)} {
 			if mac.Same(a, longer) || mac.Same(longer, a) {
 				t.Errorf("%d bytes and one more are the same", n)
 			}
@@ -190,12 +151,12 @@ func TestSameOfManyDifferences(t *testing.T) {
 }
 
 func TestExtract(t *testing.T) {
-	known := mac.Extract(unhex(t, "000102030405060708090a0b0c"), bytes.Repeat([]byte{0x0b}, 22))
+	known := mac.Extract(sample.Bytes(t, "000102030405060708090a0b0c"), bytes.Repeat([]byte{0x0b}, 22))
 	if hex.EncodeToString(known[:]) != "077709362c2e32df0ddc3f0dc47bba6390b6c73bb50f9c3122ec844ad7c2b3e5" {
 		t.Errorf("known: %x", known)
 	}
 	for n := 0; n <= 130; n++ {
-		salt, from := filled(n, 7), filled(130-n, 8)
+		salt, from := sample.Filled(n, 7), sample.Filled(130-n, 8)
 		want, err := hkdf.Extract(sha256.New, from, salt)
 		got := mac.Extract(salt, from)
 		if err != nil || !bytes.Equal(got[:], want) || got != mac.Of(salt, from) {
@@ -215,7 +176,7 @@ func TestKnownExpands(t *testing.T) {
 		{"19ef24a32c717b167f33a91d6f648bdf96596776afdb6377ac434c1c293ccb04", "",
 			"8da4e775a563c18f715f802a063c5a31b8a11f5c5ee1879ec3454e5f3c738d2d9d201395faa4b61a96c8"},
 	} {
-		got, e := mac.Expand([32]byte(unhex(t, c.key)), unhex(t, c.info), 42)
+		got, e := mac.Expand([32]byte(sample.Bytes(t, c.key)), sample.Bytes(t, c.info), 42)
 		if e != api.OK || hex.EncodeToString(got) != c.want {
 			t.Errorf("%x %d, not %s", got, e, c.want)
 		}
@@ -223,7 +184,7 @@ func TestKnownExpands(t *testing.T) {
 }
 
 func TestExpandOfEveryCount(t *testing.T) {
-	key, info := hash.Of([]byte("key")), filled(50, 9)
+	key, info := hash.Of([]byte("key")), sample.Filled(50, 9)
 	all := expanded(t, key, info, 8160)
 	for n := 0; n <= 8160; n++ {
 		if n > 300 && n < 8000 && n%97 != 0 {
@@ -245,7 +206,7 @@ func TestExpandOfEveryCount(t *testing.T) {
 
 func TestExpandByAnyInfo(t *testing.T) {
 	for n := 0; n <= 300; n++ {
-		key, info := hash.Of(filled(n, 10)), filled(n, 11)
+		key, info := hash.Of(sample.Filled(n, 10)), sample.Filled(n, 11)
 		got, e := mac.Expand(key, info, 70)
 		if e != api.OK || !bytes.Equal(got, expanded(t, key, info, 70)) {
 			t.Errorf("info of %d bytes", n)
@@ -272,14 +233,14 @@ func TestExpandOfWrongCounts(t *testing.T) {
 // The keys of RFC 8448's first handshake.
 func TestKnownLabels(t *testing.T) {
 	early := mac.Extract(nil, make([]byte, 32))
-	if !bytes.Equal(early[:], unhex(t, "33ad0a1c607ec03b09e6cd9893680ce210adf300aa1f2660e1b22e10f170f92a")) {
+	if !bytes.Equal(early[:], sample.Bytes(t, "33ad0a1c607ec03b09e6cd9893680ce210adf300aa1f2660e1b22e10f170f92a")) {
 		t.Errorf("early: %x", early)
 	}
 	derived := mac.Derive(early, "derived", hash.Of())
-	if !bytes.Equal(derived[:], unhex(t, "6f2615a108c702c5678f54fc9dbab69716c076189c48250cebeac3576c3611ba")) {
+	if !bytes.Equal(derived[:], sample.Bytes(t, "6f2615a108c702c5678f54fc9dbab69716c076189c48250cebeac3576c3611ba")) {
 		t.Errorf("derived: %x", derived)
 	}
-	traffic := [32]byte(unhex(t, "b67b7d690cc16c4e75e54213cb2d37b4e9c912bcded9105d42befd59d391ad38"))
+	traffic := [32]byte(sample.Bytes(t, "b67b7d690cc16c4e75e54213cb2d37b4e9c912bcded9105d42befd59d391ad38"))
 	for _, c := range []struct {
 		label string
 		want  string
@@ -287,7 +248,7 @@ func TestKnownLabels(t *testing.T) {
 		{"key", "3fce516009c21727d0f2e4e86ee403bc"},
 		{"iv", "5d313eb2671276ee13000b30"},
 	} {
-		want := unhex(t, c.want)
+		want := sample.Bytes(t, c.want)
 		got, e := mac.Label(traffic, c.label, nil, len(want))
 		if e != api.OK || !bytes.Equal(got, want) {
 			t.Errorf("%s: %x", c.label, got)
@@ -298,7 +259,7 @@ func TestKnownLabels(t *testing.T) {
 func TestLabelOfEveryLength(t *testing.T) {
 	key := hash.Of([]byte("key"))
 	for n := 0; n <= 255; n++ {
-		label, context := string(filled(n, 12)), filled(255-n, 13)
+		label, context := string(sample.Filled(n, 12)), sample.Filled(255-n, 13)
 		if n > 249 {
 			label = label[:249]
 		}
@@ -312,7 +273,7 @@ func TestLabelOfEveryLength(t *testing.T) {
 }
 
 func TestLabelOfTheMost(t *testing.T) {
-	key, label, context := hash.Of([]byte("key")), string(filled(249, 14)), filled(255, 15)
+	key, label, context := hash.Of([]byte("key")), string(sample.Filled(249, 14)), sample.Filled(255, 15)
 	for _, n := range []int{0, 1, 8159, 8160} {
 		got, e := mac.Label(key, label, context, n)
 		if e != api.OK || !bytes.Equal(got, expanded(t, key, infoOf(label, context, n), n)) {
@@ -324,7 +285,7 @@ func TestLabelOfTheMost(t *testing.T) {
 		{0, 256, 32}, {249, 256, 32}, {5, 257, 0}, {5, 512, 32}, {5, 70000, 32}, {250, 256, 32},
 		{250, 0, 0}, {0, 256, 0}, {255, 255, 8160}, {256, 256, 8161}, {5, 256, -1}, {250, 5, -1},
 	} {
-		got, e := mac.Label(key, string(filled(c.label, 16)), filled(c.context, 17), c.n)
+		got, e := mac.Label(key, string(sample.Filled(c.label, 16)), sample.Filled(c.context, 17), c.n)
 		if e != api.ErrArg || len(got) != 0 {
 			t.Errorf("label of %d, context of %d, %d bytes: %d bytes, error %d", c.label, c.context, c.n, len(got), e)
 		}
@@ -355,7 +316,7 @@ func TestLabelHangsOnAll(t *testing.T) {
 
 func TestDerive(t *testing.T) {
 	for n := 0; n <= 249; n++ {
-		key, sum, label := hash.Of(filled(n, 18)), hash.Of(filled(n, 19)), string(filled(n, 20))
+		key, sum, label := hash.Of(sample.Filled(n, 18)), hash.Of(sample.Filled(n, 19)), string(sample.Filled(n, 20))
 		want, e := mac.Label(key, label, sum[:], 32)
 		got := mac.Derive(key, label, sum)
 		if e != api.OK || !bytes.Equal(got[:], want) || !bytes.Equal(want, expanded(t, key, infoOf(label, sum[:], 32), 32)) {
@@ -363,7 +324,7 @@ func TestDerive(t *testing.T) {
 		}
 	}
 	for _, n := range []int{250, 251, 255, 256, 257, 505, 512, 70000} {
-		if got := mac.Derive([32]byte{1}, string(filled(n, 21)), [32]byte{2}); got != [32]byte{} {
+		if got := mac.Derive([32]byte{1}, string(sample.Filled(n, 21)), [32]byte{2}); got != [32]byte{} {
 			t.Errorf("label of %d bytes: %x", n, got)
 		}
 	}
@@ -371,8 +332,8 @@ func TestDerive(t *testing.T) {
 
 func TestNothingIsKeptOrChanged(t *testing.T) {
 	for _, n := range []int{0, 1, 20, 31, 32, 63, 64, 65, 130, 255} {
-		key, context := filled(n, 22), filled(n, 23)
-		k, c := roomy(key), roomy(context)
+		key, context := sample.Filled(n, 22), sample.Filled(n, 23)
+		k, c := sample.Roomy(key), sample.Roomy(context)
 		parts := append(make([][]byte, 0, 4), k, c)
 		mark, drawn := mac.Of(k, parts...), mac.Extract(k, c)
 		made, e := mac.Expand(mark, c, 100)
@@ -381,8 +342,8 @@ func TestNothingIsKeptOrChanged(t *testing.T) {
 		if e != api.OK || e2 != api.OK {
 			t.Fatal(e, e2)
 		}
-		unchanged(t, "the key", k, key)
-		unchanged(t, "the context", c, context)
+		sample.Unchanged(t, "the key", k, key)
+		sample.Unchanged(t, "the context", c, context)
 		room := parts[:4]
 		if !bytes.Equal(room[0], key) || !bytes.Equal(room[1], context) || room[2] != nil || room[3] != nil {
 			t.Error("the list of parts was changed")

@@ -10,38 +10,8 @@ import (
 	"testing"
 
 	"tollgate/old"
+	"tollgate/sample"
 )
-
-// filled is n bytes that follow no short period, others for each seed.
-func filled(n, seed int) []byte {
-	b := make([]byte, n)
-	x := uint32(n)*2654435761 + uint32(seed)*40503 + 12345
-	for i := range b {
-		x = x*1664525 + 1013904223
-		b[i] = byte(x >> 24)
-	}
-	return b
-}
-
-// roomy is a copy of b with spare room behind it that holds marks.
-func roomy(b []byte) []byte {
-	room := bytes.Repeat([]byte{0xEE}, len(b)+200)
-	copy(room, b)
-	return room[:len(b)]
-}
-
-func unchanged(t *testing.T, what string, got, want []byte) {
-	t.Helper()
-	if !bytes.Equal(got, want) {
-		t.Errorf("%s was changed", what)
-	}
-	for _, x := range got[len(got):cap(got)] {
-		if x != 0xEE {
-			t.Errorf("%s: its spare room was changed", what)
-			return
-		}
-	}
-}
 
 func markOf(key, b []byte) [16]byte {
 	h := hmac.New(md5.New, key)
@@ -93,7 +63,7 @@ func TestSumOfNoBytes(t *testing.T) {
 
 func TestSumOfEveryLength(t *testing.T) {
 	for n := 0; n <= 520; n++ {
-		b := filled(n, 1)
+		b := sample.Filled(n, 1)
 		want := md5.Sum(b)
 		if old.Of(b) != want {
 			t.Errorf("Of %d bytes", n)
@@ -110,7 +80,7 @@ func TestSumOfEveryLength(t *testing.T) {
 
 func TestSumCutAnywhere(t *testing.T) {
 	for _, n := range []int{1, 55, 56, 63, 64, 65, 119, 120, 127, 128, 129, 300} {
-		b := filled(n, 1)
+		b := sample.Filled(n, 1)
 		want := md5.Sum(b)
 		for i := 0; i <= n; i++ {
 			for j := i; j <= n; j += 7 {
@@ -125,7 +95,7 @@ func TestSumCutAnywhere(t *testing.T) {
 // More than 2^32 bits: the count at the end takes more than four bytes.
 func TestSumOfManyBytes(t *testing.T) {
 	const times = 1<<9 + 1
-	part := filled(1<<20, 1)
+	part := sample.Filled(1<<20, 1)
 	want := md5.New()
 	var parts [][]byte
 	for range times {
@@ -154,9 +124,9 @@ func TestKnownMarks(t *testing.T) {
 }
 
 func TestMarkByEveryKey(t *testing.T) {
-	text := filled(100, 3)
+	text := sample.Filled(100, 3)
 	for n := 0; n <= 200; n++ {
-		key := filled(n, 2)
+		key := sample.Filled(n, 2)
 		if old.Mac(key, text) != markOf(key, text) {
 			t.Errorf("by a key of %d bytes", n)
 		}
@@ -168,9 +138,9 @@ func TestMarkByEveryKey(t *testing.T) {
 
 func TestMarkOfParts(t *testing.T) {
 	for _, n := range []int{0, 1, 47, 55, 56, 63, 64, 65, 128, 150} {
-		b := filled(n, 4)
+		b := sample.Filled(n, 4)
 		for _, size := range []int{0, 10, 64, 65} {
-			key := filled(size, 5)
+			key := sample.Filled(size, 5)
 			want := markOf(key, b)
 			for i := 0; i <= n; i++ {
 				if old.Mac(key, b[:i], nil, b[i:]) != want {
@@ -187,7 +157,7 @@ func TestMarkOfParts(t *testing.T) {
 // A key counts as with noughts up to a block, one beyond a block as its sum; a byte more is another key.
 func TestMarkKeysAtABlock(t *testing.T) {
 	text := []byte("text")
-	just, more := filled(64, 6), filled(65, 6)
+	just, more := sample.Filled(64, 6), sample.Filled(65, 6)
 	sum := old.Of(more)
 	if old.Mac(more, text) != old.Mac(sum[:], text) {
 		t.Error("a key of 65 bytes isn't its sum")
@@ -201,7 +171,7 @@ func TestMarkKeysAtABlock(t *testing.T) {
 func TestHideOfEveryLength(t *testing.T) {
 	for n := 0; n <= 200; n++ {
 		for _, size := range []int{0, 1, 16, 48, 64, 100} {
-			secret, begin, b := filled(size, 7), filled((size+n)%40, 8), filled(n, 9)
+			secret, begin, b := sample.Filled(size, 7), sample.Filled((size+n)%40, 8), sample.Filled(n, 9)
 			hidden := old.Hide(secret, begin, b)
 			if !bytes.Equal(hidden, hiddenBy(secret, begin, b)) {
 				t.Errorf("%d bytes by %d", n, size)
@@ -247,8 +217,8 @@ func TestHideOfNothing(t *testing.T) {
 func TestShowOfAnyBytes(t *testing.T) {
 	r := rand.New(rand.NewSource(2))
 	for n := 0; n <= 100; n++ {
-		b := filled(n, 10)
-		secret, begin := filled(r.Intn(100), 11), filled(r.Intn(100), 12)
+		b := sample.Filled(n, 10)
+		secret, begin := sample.Filled(r.Intn(100), 11), sample.Filled(r.Intn(100), 12)
 		shown := old.Show(secret, begin, b)
 		if n%16 != 0 {
 			if shown != nil {
@@ -263,7 +233,7 @@ func TestShowOfAnyBytes(t *testing.T) {
 }
 
 func TestHideHangsOnAll(t *testing.T) {
-	b := filled(48, 13)
+	b := sample.Filled(48, 13)
 	first := old.Hide([]byte("secret"), []byte("begin"), b)
 	if bytes.Equal(first, old.Hide([]byte("secreT"), []byte("begin"), b)) {
 		t.Error("the secret")
@@ -278,18 +248,18 @@ func TestHideHangsOnAll(t *testing.T) {
 
 func TestNothingIsKeptOrChanged(t *testing.T) {
 	for _, n := range []int{0, 1, 15, 16, 17, 48, 64, 65, 130} {
-		secret, begin, b := filled(n, 14), filled(n, 15), filled(n, 16)
-		s, g, p := roomy(secret), roomy(begin), roomy(b)
+		secret, begin, b := sample.Filled(n, 14), sample.Filled(n, 15), sample.Filled(n, 16)
+		s, g, p := sample.Roomy(secret), sample.Roomy(begin), sample.Roomy(b)
 		parts := append(make([][]byte, 0, 4), g, p)
 		sum, mark, hidden := old.Of(parts...), old.Mac(s, parts...), old.Hide(s, g, p)
 		wanted := bytes.Clone(hidden)
-		h := roomy(hidden)
+		h := sample.Roomy(hidden)
 		shown := old.Show(s, g, h)
 		old.Show(s, g, p)
-		unchanged(t, "the secret", s, secret)
-		unchanged(t, "the beginning", g, begin)
-		unchanged(t, "the bytes", p, b)
-		unchanged(t, "the hidden bytes", h, hidden)
+		sample.Unchanged(t, "the secret", s, secret)
+		sample.Unchanged(t, "the beginning", g, begin)
+		sample.Unchanged(t, "the bytes", p, b)
+		sample.Unchanged(t, "the hidden bytes", h, hidden)
 		room := parts[:4]
 		if !bytes.Equal(room[0], begin) || !bytes.Equal(room[1], b) || room[2] != nil || room[3] != nil {
 			t.Error("the list of parts was changed")
@@ -310,11 +280,11 @@ func TestNothingIsKeptOrChanged(t *testing.T) {
 func TestAnswersAreNew(t *testing.T) {
 	secret, begin := []byte("secret"), []byte("begin")
 	for _, n := range []int{16, 20, 64} {
-		b := filled(n, 17)
+		b := sample.Filled(n, 17)
 		one, two := old.Hide(secret, begin, b), old.Hide(secret, begin, b)
 		want := bytes.Clone(two)
 		clear(one)
-		if !bytes.Equal(two, want) || !bytes.Equal(old.Hide(secret, begin, b), want) || !bytes.Equal(b, filled(n, 17)) {
+		if !bytes.Equal(two, want) || !bytes.Equal(old.Hide(secret, begin, b), want) || !bytes.Equal(b, sample.Filled(n, 17)) {
 			t.Errorf("what is hidden of %d bytes isn't new memory", n)
 		}
 		first, second := old.Show(secret, begin, want), old.Show(secret, begin, want)
