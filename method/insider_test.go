@@ -9,6 +9,7 @@ import (
 	"tollgate/api"
 	"tollgate/curve"
 	"tollgate/hello"
+	"tollgate/house"
 	"tollgate/keys"
 	"tollgate/mac"
 	"tollgate/record"
@@ -84,7 +85,7 @@ func packet(flight ...[]byte) []byte { return slices.Concat([]byte{0}, slices.Co
 // A peer of which a flight leaves nothing to say isn't done, unless it is committed.
 func TestPeersWithNothingToSay(t *testing.T) {
 	t.Parallel()
-	a, b := house(t)
+	a, b := home.Ends(t)
 	in := overheard(t, a, b)
 	first, _ := in.cut(in.server)
 	o := newBoth(t, a, 4000, false)
@@ -111,7 +112,7 @@ func TestPeersWithNothingToSay(t *testing.T) {
 // A server that is committed while its peer still has something to say: that is said first.
 func TestPeersThatAreCommittedEarly(t *testing.T) {
 	t.Parallel()
-	a, b := house(t)
+	a, b := home.Ends(t)
 	in := overheard(t, a, b)
 	for _, size := range []int{4000, 300} {
 		early := func() (*both, *record.Half) {
@@ -146,7 +147,7 @@ func TestPeersThatAreCommittedEarly(t *testing.T) {
 // A server of which a flight leaves nothing to say.
 func TestServersWithNothingToSay(t *testing.T) {
 	t.Parallel()
-	a, b := house(t)
+	a, b := home.Ends(t)
 	in := overheard(t, a, b)
 	o := newBoth(t, b, 4000, true)
 	o.step(t, packet(in.client))
@@ -170,7 +171,7 @@ func (in insider) alertOf(half *record.Half, rec []byte) byte {
 // An alert is one piece, whatever the size is.
 func TestAlerts(t *testing.T) {
 	t.Parallel()
-	a, b := house(t)
+	a, b := home.Ends(t)
 	in := overheard(t, a, b)
 	for _, size := range []int{16, 24, 25, 4000} {
 		// A bare one.
@@ -206,7 +207,7 @@ func TestAlerts(t *testing.T) {
 // A server whose handshake is done waits for nothing but an empty flight.
 func TestServersLastPacket(t *testing.T) {
 	t.Parallel()
-	p := path{sizes: [2]int{4000, 4000}}
+	p := house.Path{Sizes: [2]int{4000, 4000}}
 	talk := talkOf(t, p)
 	last := len(talk) - 1
 	for _, b := range [][]byte{{0}, counted(0x80, 0)} {

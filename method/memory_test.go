@@ -5,9 +5,9 @@ import (
 	"testing"
 
 	"tollgate/api"
+	"tollgate/house"
 	"tollgate/method"
 	"tollgate/sample"
-	"tollgate/tls"
 )
 
 func spoil(b []byte) {
@@ -17,55 +17,21 @@ func spoil(b []byte) {
 	}
 }
 
-// roomy is a copy of a Config, whose lists and bytes have spare room with marks in it.
-func roomy(c tls.Config) tls.Config {
-	c.Chain, c.Roots = roomyList(c.Chain), roomyList(c.Roots)
-	c.Saved.Ticket, c.Saved.Peer.Key = sample.Roomy(c.Saved.Ticket), sample.Roomy(c.Saved.Peer.Key)
-	return c
-}
-
-func roomyList(list [][]byte) [][]byte {
-	all := [][]byte{}
-	for _, b := range list {
-		all = append(all, sample.Roomy(b))
-	}
-	return append(all, sample.Roomy([]byte("spare")))[:len(list)]
-}
-
-// lists are all bytes of a Config, the lists' spare room among them.
-func lists(c tls.Config) [][]byte {
-	all := append([][]byte{c.Saved.Ticket, c.Saved.Peer.Key}, c.Chain[:len(c.Chain)+1]...)
-	return append(all, c.Roots[:len(c.Roots)+1]...)
-}
-
-func isUnchanged(t *testing.T, got, want tls.Config) {
-	t.Helper()
-	wanted := lists(roomy(want))
-	for i, b := range lists(got) {
-		sample.Unchanged(t, "a Config", b, wanted[i])
-	}
-}
-
 // Whatever becomes of a Config, of what came, and of what was answered: the talk goes on.
 func TestNothingIsKeptOrShared(t *testing.T) {
 	t.Parallel()
-	for _, p := range paths([2]int{4000, 4000}, [2]int{100, 300}) {
-		a, b := p.house(t)
-		roomyA, roomyB := roomy(a), roomy(b)
-		x, e := method.Peer(roomyA, p.sizes[0])
-		y, f := method.Server(roomyB, p.sizes[1])
+	for _, p := range house.Paths([2]int{4000, 4000}, [2]int{100, 300}) {
+		a, b := home.On(t, p)
+		lentA, lentB := house.Lend(a), house.Lend(b)
+		x, e := method.Peer(lentA.Config, p.Sizes[0])
+		y, f := method.Server(lentB.Config, p.Sizes[1])
 		if e != api.OK || f != api.OK {
 			t.Fatal("no ends: errors ", e, f)
 		}
-		isUnchanged(t, roomyA, a)
-		isUnchanged(t, roomyB, b)
-		for _, c := range []tls.Config{roomyA, roomyB} {
-			for _, b := range lists(c) {
-				spoil(b)
-			}
-			clear(c.Chain[:cap(c.Chain)])
-			clear(c.Roots[:cap(c.Roots)])
-		}
+		lentA.Unchanged(t)
+		lentB.Unchanged(t)
+		lentA.Spoil()
+		lentB.Spoil()
 		next := bytes.Clone(start)
 		for i, want := range talkOf(t, p) {
 			if !bytes.Equal(next, want) {
@@ -83,10 +49,10 @@ func TestNothingIsKeptOrShared(t *testing.T) {
 			sample.Unchanged(t, "a packet", handed, want)
 			spoil(handed)
 		}
-		w := newWords(a, p.sizes[0], false)
-		answerEachOther(w, newWords(b, p.sizes[1], true))
+		w := newWords(a, p.Sizes[0], false)
+		answerEachOther(w, newWords(b, p.Sizes[1], true))
 		want, _ := w.side.Saved()
-		if v, _ := x.Saved(); !sameSaved(v, want) {
+		if v, _ := x.Saved(); !house.SameSaved(v, want) {
 			t.Errorf("%v: %v is kept, not %v", p, v, want)
 		}
 		keptIsNew(t, x)
@@ -101,14 +67,14 @@ func keptIsNew(t *testing.T, m *method.Method) {
 	t.Helper()
 	first, ok := m.Saved()
 	second, _ := m.Saved()
-	if !ok || !sameSaved(first, second) {
+	if !ok || !house.SameSaved(first, second) {
 		t.Fatal("nothing is kept")
 	}
 	want := second
 	want.Ticket, want.Peer.Key = bytes.Clone(second.Ticket), bytes.Clone(second.Peer.Key)
 	spoil(first.Ticket)
 	spoil(first.Peer.Key)
-	if third, _ := m.Saved(); !sameSaved(second, want) || !sameSaved(third, want) {
+	if third, _ := m.Saved(); !house.SameSaved(second, want) || !house.SameSaved(third, want) {
 		t.Error("what is kept is shared")
 	}
 }
@@ -116,7 +82,7 @@ func keptIsNew(t *testing.T, m *method.Method) {
 // An alert, and an Ack, are new memory.
 func TestAnswersAreNew(t *testing.T) {
 	t.Parallel()
-	_, b := house(t)
+	_, b := home.Ends(t)
 	for _, packet := range [][]byte{{0, 22, 3, 3, 0, 0}, counted(0xC0, 5, 1), {0, 21, 3, 3, 0, 2, 2, 40}, {0x40}} {
 		var wanted []byte
 		for i := range 3 {
@@ -138,8 +104,8 @@ func TestAnswersAreNew(t *testing.T) {
 // Two ends of one Config share nothing.
 func TestEndsOfOneConfig(t *testing.T) {
 	t.Parallel()
-	p := path{resumed: true, sizes: [2]int{50, 50}}
-	a, _ := p.house(t)
+	p := house.Path{Resumed: true, Sizes: [2]int{50, 50}}
+	a, _ := home.On(t, p)
 	one, _ := method.Peer(a, 50)
 	two, _ := method.Peer(a, 50)
 	for i, e := 0, api.OK; i < 6; i++ {

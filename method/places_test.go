@@ -7,11 +7,12 @@ import (
 	"testing"
 
 	"tollgate/api"
+	"tollgate/house"
 	"tollgate/sample"
 )
 
 // eachPlace lets f look at each place of each path, where an end waits for the packet at.
-func eachPlace(t *testing.T, list []path, f func(t *testing.T, p path, server bool, talk [][]byte, at int)) {
+func eachPlace(t *testing.T, list []house.Path, f func(t *testing.T, p house.Path, server bool, talk [][]byte, at int)) {
 	for _, p := range list {
 		t.Run(p.String(), func(t *testing.T) {
 			t.Parallel()
@@ -42,7 +43,7 @@ func wrongPackets() [][]byte {
 // Packets of each kind at each place; and what comes behind one.
 func TestWrongPackets(t *testing.T) {
 	wrong := wrongPackets()
-	eachPlace(t, paths([2]int{4000, 4000}, [2]int{400, 600}), func(t *testing.T, p path, server bool, talk [][]byte, at int) {
+	eachPlace(t, house.Paths([2]int{4000, 4000}, [2]int{400, 600}), func(t *testing.T, p house.Path, server bool, talk [][]byte, at int) {
 		for _, b := range wrong {
 			o := reached(t, p, server, talk, at)
 			o.step(t, b)
@@ -55,7 +56,7 @@ func TestWrongPackets(t *testing.T) {
 
 // The right packet changed: each of its first bytes, its last one, and some between, a byte fewer, and a byte more.
 func TestChangedPackets(t *testing.T) {
-	eachPlace(t, paths([2]int{500, 700}), func(t *testing.T, p path, server bool, talk [][]byte, at int) {
+	eachPlace(t, house.Paths([2]int{500, 700}), func(t *testing.T, p house.Path, server bool, talk [][]byte, at int) {
 		right := talk[at]
 		r := rand.New(rand.NewSource(int64(at)))
 		for i := range right {
@@ -78,7 +79,7 @@ func TestChangedPackets(t *testing.T) {
 
 // Packets of the same talk that come at the wrong time.
 func TestPacketsAstray(t *testing.T) {
-	eachPlace(t, paths([2]int{600, 700})[:2], func(t *testing.T, p path, server bool, talk [][]byte, at int) {
+	eachPlace(t, house.Paths([2]int{600, 700})[:2], func(t *testing.T, p house.Path, server bool, talk [][]byte, at int) {
 		for other := range talk {
 			o := reached(t, p, server, talk, at)
 			o.step(t, talk[other])
@@ -91,7 +92,7 @@ func TestPacketsAstray(t *testing.T) {
 
 // A flight in pieces that the other end didn't make: by L alone, of one byte each, with an end that holds nothing.
 func TestPiecesOfOthers(t *testing.T) {
-	eachPlace(t, paths([2]int{4000, 4000}), func(t *testing.T, p path, server bool, talk [][]byte, at int) {
+	eachPlace(t, house.Paths([2]int{4000, 4000}), func(t *testing.T, p house.Path, server bool, talk [][]byte, at int) {
 		if at == 0 {
 			return
 		}
@@ -118,7 +119,7 @@ func TestPiecesOfOthers(t *testing.T) {
 func TestJustAnAckAsksForMore(t *testing.T) {
 	t.Parallel()
 	wrong := [][]byte{nil, start, {0x40}, {0x80}, counted(0x80, 0), {0, 0}, {1}, {0, 21, 3, 3, 0, 2, 2, 40}, counted(0xC0, 5, 1)}
-	p := path{sizes: [2]int{90, 90}}
+	p := house.Path{Sizes: [2]int{90, 90}}
 	talk := talkOf(t, p)
 	places := [2]int{}
 	for at := range talk {
@@ -140,7 +141,7 @@ func TestJustAnAckAsksForMore(t *testing.T) {
 // A peer that hasn't begun takes a Start, and nothing else.
 func TestJustAStartBegins(t *testing.T) {
 	t.Parallel()
-	a, b := house(t)
+	a, b := home.Ends(t)
 	for _, packet := range append(wrongPackets(), []byte{0x20, 0x20}, []byte{0x21}, []byte{0x30}, []byte{0xA0}) {
 		if bytes.Equal(packet, start) {
 			continue
@@ -158,7 +159,7 @@ func TestJustAStartBegins(t *testing.T) {
 func TestPeersThatCanNotDial(t *testing.T) {
 	t.Parallel()
 	for _, size := range []int{16, 4000} {
-		a, _ := house(t)
+		a, _ := home.Ends(t)
 		a.Saved.Ticket = make([]byte, 1<<16)
 		o := newBoth(t, a, size, false)
 		o.stepAs(t, start, nil, api.ErrForm)
@@ -172,7 +173,7 @@ func TestPeersThatCanNotDial(t *testing.T) {
 // As many bytes wait as a flight may have, and never more.
 func TestWaits(t *testing.T) {
 	t.Parallel()
-	p := path{sizes: [2]int{1000, 1000}}
+	p := house.Path{Sizes: [2]int{1000, 1000}}
 	talk := talkOf(t, p)
 	for _, at := range []int{1, 2} {
 		if at == 2 && len(talk[1]) != len(piecesOf(talk[1][1:], 1000)[0]) {
@@ -203,7 +204,7 @@ func TestWaits(t *testing.T) {
 }
 
 func TestAnyPackets(t *testing.T) {
-	eachPlace(t, paths([2]int{900, 900}), func(t *testing.T, p path, server bool, talk [][]byte, at int) {
+	eachPlace(t, house.Paths([2]int{900, 900}), func(t *testing.T, p house.Path, server bool, talk [][]byte, at int) {
 		r := rand.New(rand.NewSource(int64(at) + 7))
 		for i := range 15 {
 			o := reached(t, p, server, talk, at)

@@ -5,12 +5,13 @@ import (
 	"testing"
 
 	"tollgate/api"
+	"tollgate/house"
 	"tollgate/method"
 	"tollgate/record"
 )
 
 // isDone lets a peer and a server answer each other till they are done.
-func isDone(t *testing.T, p path) {
+func isDone(t *testing.T, p house.Path) {
 	t.Helper()
 	a, b := bothOn(t, p, false), bothOn(t, p, true)
 	to, other := a, b
@@ -23,7 +24,7 @@ func isDone(t *testing.T, p path) {
 		next = said
 		n++
 	}
-	if !a.m.Done() || !b.m.Done() || a.m.Other() != "server" || b.m.Other() != "client" || a.m.Resumed() != p.resumed || b.m.Resumed() != p.resumed {
+	if !a.m.Done() || !b.m.Done() || a.m.Other() != "server" || b.m.Other() != "client" || a.m.Resumed() != p.Resumed || b.m.Resumed() != p.Resumed {
 		t.Errorf("%v: done %v and %v, with %q and %q", p, a.m.Done(), b.m.Done(), a.m.Other(), b.m.Other())
 	}
 	k, _ := a.m.Keys()
@@ -49,7 +50,7 @@ func TestTalks(t *testing.T) {
 		t.Run(fmt.Sprint(a), func(t *testing.T) {
 			t.Parallel()
 			for _, b := range sizes {
-				for _, p := range paths([2]int{a, b}) {
+				for _, p := range house.Paths([2]int{a, b}) {
 					isDone(t, p)
 				}
 			}
@@ -60,13 +61,13 @@ func TestTalks(t *testing.T) {
 // Flights that fill their pieces just so, with a byte more, and with one fewer.
 func TestTalksByEachSize(t *testing.T) {
 	t.Parallel()
-	long := paths([2]int{4000, 4000})[0]
+	long := house.Paths([2]int{4000, 4000})[0]
 	for i, b := range talkOf(t, long) {
 		for size := len(b) - 1; size <= len(b)+1; size++ {
 			for _, parts := range []int{1, 2, 3} {
 				if fits := size/parts + 2; fits >= 16 {
 					p := long
-					p.sizes[(i+1)%2] = fits
+					p.Sizes[(i+1)%2] = fits
 					isDone(t, p)
 				}
 			}
@@ -77,12 +78,12 @@ func TestTalksByEachSize(t *testing.T) {
 // What each packet has, by the document's example.
 func TestExample(t *testing.T) {
 	t.Parallel()
-	talk := talkOf(t, path{sizes: [2]int{4000, 4000}})
+	talk := talkOf(t, house.Path{Sizes: [2]int{4000, 4000}})
 	want := []string{"", "[22]", "[22 23]", "[23]", "[23 23]", ""}
 	if len(talk) != len(want) {
 		t.Fatalf("%d packets", len(talk))
 	}
-	p := path{sizes: [2]int{4000, 4000}}
+	p := house.Path{Sizes: [2]int{4000, 4000}}
 	a, b := bothOn(t, p, false), bothOn(t, p, true)
 	for i, packet := range talk {
 		o := a
@@ -122,7 +123,7 @@ func kindsOf(t *testing.T, flight []byte) []int {
 
 func TestSizes(t *testing.T) {
 	t.Parallel()
-	a, b := house(t)
+	a, b := home.Ends(t)
 	for _, size := range []int{-1 << 63, -4000, -1, 0, 1, 14, 15, 4001, 4002, 32768, 1 << 32, 1<<32 + 100, 1<<63 - 1} {
 		if m, e := method.Peer(a, size); m != nil || e != api.ErrArg {
 			t.Errorf("a peer by %d: error %d", size, e)
@@ -140,7 +141,7 @@ func TestSizes(t *testing.T) {
 // What an end says hangs on its own Config alone, not on when it was made.
 func TestEndsAreApart(t *testing.T) {
 	t.Parallel()
-	p := path{sizes: [2]int{100, 300}}
+	p := house.Path{Sizes: [2]int{100, 300}}
 	talk := talkOf(t, p)
 	var ends []*both
 	for i := range 4 {

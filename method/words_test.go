@@ -6,6 +6,7 @@ import (
 	"testing"
 
 	"tollgate/api"
+	"tollgate/house"
 	"tollgate/method"
 	"tollgate/piece"
 	"tollgate/tls"
@@ -138,10 +139,10 @@ func answerEachOther(p, s *words) [][]byte {
 }
 
 // talkOf is all that is said on a path: Start first.
-func talkOf(t *testing.T, p path) [][]byte {
+func talkOf(t *testing.T, p house.Path) [][]byte {
 	t.Helper()
-	a, b := p.house(t)
-	return answerEachOther(newWords(a, p.sizes[0], false), newWords(b, p.sizes[1], true))
+	a, b := home.On(t, p)
+	return answerEachOther(newWords(a, p.Sizes[0], false), newWords(b, p.Sizes[1], true))
 }
 
 // both are an end, and what it must be.
@@ -163,13 +164,13 @@ func newBoth(t *testing.T, c tls.Config, size int, server bool) *both {
 	return &both{m, newWords(c, size, server)}
 }
 
-func bothOn(t *testing.T, p path, server bool) *both {
+func bothOn(t *testing.T, p house.Path, server bool) *both {
 	t.Helper()
-	a, b := p.house(t)
+	a, b := home.On(t, p)
 	if server {
-		return newBoth(t, b, p.sizes[1], true)
+		return newBoth(t, b, p.Sizes[1], true)
 	}
-	return newBoth(t, a, p.sizes[0], false)
+	return newBoth(t, a, p.Sizes[0], false)
 }
 
 // step hands b to both, and holds the answers and all that the end tells against each other.
@@ -211,7 +212,7 @@ func (o *both) isSo(t *testing.T) {
 	}
 	v, ok := m.Saved()
 	want, wantOk := w.side.Saved()
-	if ok != wantOk || ok && w.server || !sameSaved(v, want) {
+	if ok != wantOk || ok && w.server || !house.SameSaved(v, want) {
 		t.Errorf("keeps %v, %v, not %v", ok, v, want)
 	}
 }
@@ -221,7 +222,7 @@ func (o *both) tellsNothing(t *testing.T) {
 	if k, ok := o.m.Keys(); ok || k != (method.Keys{}) {
 		t.Errorf("not done, keys %x", k)
 	}
-	if v, ok := o.m.Saved(); ok || !sameSaved(v, tls.Saved{}) || o.m.Other() != "" || o.m.Resumed() {
+	if v, ok := o.m.Saved(); ok || !house.SameSaved(v, tls.Saved{}) || o.m.Other() != "" || o.m.Resumed() {
 		t.Errorf("not done, with %q, resumed %v, keeps %v", o.m.Other(), o.m.Resumed(), v)
 	}
 }
@@ -238,7 +239,7 @@ func keysOf(t *testing.T, s *tls.Side) method.Keys {
 }
 
 // reached is an end that was told all that a talk says to it ahead of the packet at.
-func reached(t *testing.T, p path, server bool, talk [][]byte, at int) *both {
+func reached(t *testing.T, p house.Path, server bool, talk [][]byte, at int) *both {
 	t.Helper()
 	o := bothOn(t, p, server)
 	first := 0
